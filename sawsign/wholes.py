@@ -14,6 +14,11 @@ def shared(a, b):
     return high
 
 
+def need_apart(a, m):
+    if shared(a, m) != 1:
+        raise NotApart("a and m share a number above 1")
+
+
 def turned(a, m):
     need_from(1, m)
     high = m

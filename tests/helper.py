@@ -10,6 +10,9 @@ THREES = 3 ** 271
 SEVENS = 7 ** 153
 LONG_NUMBERS = [LEAST_LONG, GREATEST_LONG, THREES, SEVENS]
 
+# Things that a looker may be handed, and that are no whole numbers.
+NO_WHOLES = [True, False, None, "", "0", "1", "zero", [], [0], [1, 2], (), (0,), (1, 2), [[0]], ((0,),), (True,)]
+
 
 class TooSlow(Exception):
     pass

@@ -82,9 +82,25 @@ def faults_of_node(node):
         yield f"L8: {node.id}"
     if isinstance(node, ast.Attribute) and node.attr in PYTHONS_METHODS - METHODS - TWO_UNDERSCORES:
         yield f"L25: {node.attr}"
+    if isinstance(node, ast.Assign) and any(isinstance(target, (ast.Tuple, ast.List)) for target in node.targets):
+        yield "L6: an assignment that takes a tuple apart"
+    if isinstance(node, ast.BinOp) and isinstance(node.op, ast.Pow) and not isinstance(node.right, ast.Constant):
+        yield "L27: an exponent that is not written"
+    if isinstance(node, ast.FormattedValue) and not isinstance(node.value, ast.Name):
+        yield "L7: no plain name within an f-string"
     for name in names_bound(node):
         if name not in TWO_UNDERSCORES and (name.startswith("_") or hasattr(builtins, name)):
             yield f"L12, L15: {name}"
+
+
+def faults_of_locals(tree):
+    taken = [name.asname or name.name for node in imports_of(tree) for name in node.names]
+    taken += [node.name for node in tree.body if isinstance(node, ast.ClassDef)]
+    for outer in tree.body:
+        if isinstance(outer, (ast.FunctionDef, ast.ClassDef)):
+            for node in ast.walk(outer):
+                if node is not outer and any(name in taken for name in names_bound(node)):
+                    yield f"L15: a local of {outer.name} is called like an import or a class"
 
 
 def imports_of(tree):
@@ -101,7 +117,7 @@ def faults_of_imports(tree):
 
 def faults_of(text):
     tree = ast.parse(text)
-    faults = list(faults_of_signs(text)) + list(faults_of_imports(tree))
+    faults = list(faults_of_signs(text)) + list(faults_of_imports(tree)) + list(faults_of_locals(tree))
     for node in ast.walk(tree):
         faults.extend(faults_of_node(node))
     return faults
@@ -142,6 +158,8 @@ class Form(unittest.TestCase):
             "def f(a):\n    return pow(a, 2, 3)\n", "# a type\n", "def _f():\n    return 1\n", "x = '\u00e4'\n",
             "def f(map):\n    return map\n", "def f(a):\n    assert a\n", "def f(a):\n    a.sort()\n",
             "x = 1\n" * 401, "def f(a):\n" + "    a = 1\n" * 40, "# " + "a" * 119 + "\n", "def f(a):\n\treturn a\n",
+            "from sawsign.a import b\ndef f(b):\n    return b\n", "def f(a):\n    b, c = a\n",
+            "def f(a):\n    return 2 ** a\n", "def f(a):\n    return f'{a + 1}'\n",
         ]
         for text in bad:
             with self.subTest(text=text[:40]):
