@@ -48,3 +48,62 @@ def refused_alike(case, error, ask, *things):
             with case.assertRaises(error) as caught:
                 ask(*things)
             case.assertIs(type(caught.exception), error)
+
+
+def least_root(p, parts):
+    for root in range(2, 1000):
+        if pow(root, p - 1, p) == 1 and all(pow(root, (p - 1) // q, p) != 1 for q, often in parts):
+            return root
+    raise AssertionError(f"{p} has no small root")
+
+
+def trial_divisors(number):
+    """The primes that divide a number, each once; slow but for numbers with small primes alone."""
+    primes = []
+    q = 2
+    while number > 1:
+        if number % q == 0:
+            primes.append(q)
+            while number % q == 0:
+                number //= q
+        q += 1
+    return primes
+
+
+def add_row(rows, p):
+    """Adds the tuple of p, and those it needs, where p - 1 has but small primes and those of the rows."""
+    known = [row[0] for row in rows]
+    left = p - 1
+    for q in known:
+        while left % q == 0:
+            left //= q
+    for q in trial_divisors(left):
+        if q != 2 and q not in known:
+            add_row(rows, q)
+    parts = []
+    for q in sorted(set([2] + [row[0] for row in rows])):
+        often = 0
+        while (p - 1) % q ** (often + 1) == 0:
+            often += 1
+        if often > 0:
+            parts.append((q, often))
+    rows.append((p, least_root(p, parts), parts))
+
+
+def long_paper():
+    """A paper that holds for a prime of 130 figures, step by step from small primes; the prime is its last p."""
+    rows = []
+    add_row(rows, 3)
+    chain = [3]
+    for h in (1, 15, 35, 26, 2, 281):
+        chain.append(2 * h * chain[-1] ** 2 + 1)
+        add_row(rows, chain[-1])
+    add_row(rows, 2 * 2100 * chain[2] * chain[3] * chain[4] * chain[6] + 1)
+    return rows
+
+
+def twos_paper():
+    """A paper that holds for a prime p of 130 figures, its last one, where 2 divides p - 1 421 times."""
+    rows = []
+    add_row(rows, 393 * 2 ** 421 + 1)
+    return rows
