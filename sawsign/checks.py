@@ -8,6 +8,10 @@ def is_whole(thing):
     return isinstance(thing, int) and not isinstance(thing, bool)
 
 
+def is_pair_of_wholes(thing):
+    return isinstance(thing, tuple) and len(thing) == 2 and is_whole(thing[0]) and is_whole(thing[1])
+
+
 def need_from(least, number):
     if number < least:
         # The number stays out of the words: Python refuses to write one of very many figures.

@@ -1,20 +1,16 @@
 """Papers, which show that a number is prime: whether one holds, and the paper of a prime (points 18 and 19)."""
 
-from sawsign.checks import is_whole, need_to
+from sawsign.checks import is_pair_of_wholes, is_whole, need_to
 from sawsign.errors import NoPrime
 from sawsign.wholes import power_by
 
 GREATEST_PRIME = 999999
 
 
-def is_part(thing):
-    return isinstance(thing, tuple) and len(thing) == 2 and is_whole(thing[0]) and is_whole(thing[1])
-
-
 def is_paper_row(thing):
     if not isinstance(thing, tuple) or len(thing) != 3 or not isinstance(thing[2], list):
         return False
-    return is_whole(thing[0]) and is_whole(thing[1]) and all([is_part(part) for part in thing[2]])
+    return is_whole(thing[0]) and is_whole(thing[1]) and all([is_pair_of_wholes(part) for part in thing[2]])
 
 
 def parts_are_allowed(parts, ahead):

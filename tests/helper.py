@@ -1,7 +1,10 @@
-"""What the tests share: numbers of 130 figures, and a bound on how long an answer may take."""
+"""What the tests share: numbers of 130 figures, tables, and a bound on how long an answer may take."""
 
+import itertools
+import math
 import signal
 import unittest
+from fractions import Fraction
 
 # Each has 130 figures, the most that may be handed in.
 LEAST_LONG = 10 ** 129
@@ -48,6 +51,60 @@ def refused_alike(case, error, ask, *things):
             with case.assertRaises(error) as caught:
                 ask(*things)
             case.assertIs(type(caught.exception), error)
+
+
+def pair_of(number):
+    """What Python's own fractions tell, as a tuple (top, bottom)."""
+    number = Fraction(number)
+    return (number.numerator, number.denominator)
+
+
+def tooth_by_words(x):
+    """Point 26 word for word, of one of Python's own fractions."""
+    return Fraction(0) if x.denominator == 1 else x - math.floor(x) - Fraction(1, 2)
+
+
+def pair_by_words(a, b, m):
+    """Point 28 word for word."""
+    teeth = [tooth_by_words(Fraction(k, m)) for k in range(m)]
+    return sum((teeth[a * k % m] * teeth[b * k % m] for k in range(1, m)), Fraction(0))
+
+
+def small_tables(most):
+    """All tables whose places lie from -most to most."""
+    numbers = range(-most, most + 1)
+    return [((a, b), (c, d)) for a, b, c, d in itertools.product(numbers, repeat=4) if a * d - b * c == 1]
+
+
+def table_above(c, d, times=0):
+    """A table with this lower row, c not 0; times tells how often the lower row is added to the upper one."""
+    a = pow(d, -1, abs(c)) + times * c
+    return ((a, (a * d - 1) // c), (c, d))
+
+
+def long_tables():
+    """Tables with places of 130 figures, of either sign."""
+    tables = [((1, GREATEST_LONG), (0, 1)), ((-1, LEAST_LONG), (0, -1)), ((1, 0), (-GREATEST_LONG, 1))]
+    pairs = [(THREES, SEVENS), (SEVENS, THREES), (GREATEST_LONG, LEAST_LONG), long_fibonacci_pair()]
+    for c, d in pairs:
+        tables += [table_above(c, d), table_above(-c, d), table_above(c, -d, -1), table_above(-c, -d)]
+    return tables
+
+
+# Of any kind; in each place, and in place of the whole.
+NO_TABLES = [
+    ((1, 0), (0, 2)), ((1, 0), (0, -1)), ((0, 0), (0, 0)), ((1, 1), (1, 1)), ((0, 1), (1, 0)), ((2, 1), (1, 2)),
+    ((THREES, SEVENS), (SEVENS, THREES)), ((GREATEST_LONG, 0), (0, GREATEST_LONG)),
+    [(1, 0), (0, 1)], ([1, 0], [0, 1]), ([1, 0], (0, 1)), ((1, 0), [0, 1]), [[1, 0], [0, 1]], (1, 0, 0, 1),
+    [1, 0, 0, 1], ((1, 0),), ((1, 0), (0, 1), (0, 0)), ((1, 0), (0, 1), ()), ((1, 0, 0), (0, 1)), ((1, 0), (0, 1, 0)),
+    ((1,), (0, 1)), ((1, 0), (1,)), ((), ()), (), [], ((1, 0), 1), (1, (0, 1)), ((1, 0), None), (None, (0, 1)),
+    ("10", "01"), ("10", (0, 1)), ((1, 0), "01"), "10", "1001", "1 0 0 1", "", None, True, False, 0, 1, -1,
+    GREATEST_LONG, (((1, 0), (0, 1)),), [((1, 0), (0, 1))],
+    ((1, 0), (0, 1)) * 1000, ((1,) * 1000, (0,) * 1000), [((1, 0), (0, 1))] * 1000,
+] + [
+    ((thing if place == 0 else 1, thing if place == 1 else 0), (thing if place == 2 else 0, thing if place == 3 else 1))
+    for thing in NO_WHOLES for place in range(4)
+] + [(thing, (0, 2)) for thing in NO_WHOLES] + [((2, 0), thing) for thing in NO_WHOLES] + NO_WHOLES
 
 
 def least_root(p, parts):

@@ -10,8 +10,9 @@ from sawsign.halves import overs_of
 from sawsign.papers import prime_paper
 from sawsign.roads import sign_by_halves, sign_by_points, sign_by_rounds
 from sawsign.roots import root_by
+from sawsign.teeth import sign_by_teeth
 
-ROADS = [sign_by_rounds, sign_by_halves, sign_by_points]
+ROADS = [sign_by_rounds, sign_by_halves, sign_by_points, sign_by_teeth]
 SHORT_ROADS = [sign_by_rounds, sign_by_halves]
 
 
@@ -56,11 +57,11 @@ class Roads(SoonTest):
                 if math.gcd(a, m) == 1:
                     self.check_one_sign(a, m, ROADS)
 
-    def test_long_m_by_points(self):
+    def test_long_m_by_points_and_by_teeth(self):
         for m in (201, 1001, GREATEST_LONG, THREES, SEVENS):
             for a in [1, -1, 2, -2, 5, 8, 10 ** 90 + 1, m - 1, m + 1] + LONG_NUMBERS:
                 if math.gcd(a, m) == 1:
-                    self.check_one_sign(a, m, [sign_by_points])
+                    self.check_one_sign(a, m, [sign_by_points, sign_by_teeth])
 
     def test_one_sign_by_the_whole_promise(self):
         for m in range(1, 60, 2):
@@ -114,6 +115,7 @@ class Roads(SoonTest):
                 refused_alike(self, NotApart, road, a, m)
         for a, m in [(0, 201), (3, 201), (0, THREES), (3, THREES), (-SEVENS, 7 ** 100), (9, GREATEST_LONG)]:
             refused_alike(self, NotApart, sign_by_points, a, m)
+            refused_alike(self, NotApart, sign_by_teeth, a, m)
 
     def test_answered_as_before_behind_refusals(self):
         for road in ROADS:
