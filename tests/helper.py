@@ -107,6 +107,34 @@ NO_TABLES = [
 ] + [(thing, (0, 2)) for thing in NO_WHOLES] + [((2, 0), thing) for thing in NO_WHOLES] + NO_WHOLES
 
 
+def alternating(oftens, letters="uv"):
+    """The word whose letters take turns, each as often as told."""
+    return [(letters[place % 2], often) for place, often in enumerate(oftens)]
+
+
+def short_words(most_runs, most_often):
+    """All words of so many runs at most, each letter taken so often at most."""
+    words = [[]]
+    for runs in range(1, most_runs + 1):
+        for oftens in itertools.product(range(1, most_often + 1), repeat=runs):
+            words += [alternating(oftens), alternating(oftens, "vu")]
+    return words
+
+
+# Of any kind; as a run in each place, and in place of the whole.
+NO_RUNS = [
+    ("w", 1), ("U", 1), ("", 1), ("uv", 1), ("u ", 1), ("u", 0), ("v", -1), ("u", -GREATEST_LONG), ("u", "1"),
+    ("u", None), ("u", True), ("v", False), ("u", [1]), ("u", (1,)), (1, "u"), (1, 1), (None, 1), (True, 1), (["u"], 1),
+    (("u",), 1), ["u", 1], ("u",), ("u", 1, 1), ("u", 1, "v", 1), (), "u1", "u", "u 1", (("u", 1),), [("u", 1)],
+] + NO_WHOLES + [0, 1, GREATEST_LONG]
+NO_WORDS = [
+    [("u", 1), ("u", 1)], [("v", 2), ("v", 1)], [("u", 1), ("v", 1), ("v", 1)], [("v", 1), ("u", 1), ("u", 5)],
+    alternating([1] * 400) + [("v", 1)], alternating([1] * 399 + [0]), [("u", 1)] * 400, (), (("u", 1),),
+    (("u", 1), ("v", 1)), ("u", 1), ["u", 1], "u 1", "", "none", "uv", None, True, False, 0, 1, -3, GREATEST_LONG,
+    [[]], [()], [None], [[("u", 1)]], ((1, 0), (0, 1)), [None] * 1000,
+] + [[run] for run in NO_RUNS] + [[("v", 2), run] for run in NO_RUNS] + [[run, ("v", 2)] for run in NO_RUNS]
+
+
 def least_root(p, parts):
     for root in range(2, 1000):
         if pow(root, p - 1, p) == 1 and all(pow(root, (p - 1) // q, p) != 1 for q, often in parts):
